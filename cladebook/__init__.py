@@ -1,0 +1,1 @@
+"""Cladebook: a book with sixteen places for trees of descent."""
