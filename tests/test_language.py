@@ -1,4 +1,8 @@
-"""The package keeps to the part of Python that LANGUAGE.md tells, as far as its files alone can show it."""
+"""The package keeps to the part of Python that LANGUAGE.md tells.
+
+Only some rules are looked at here: files, imports, statements, names, sizes, methods. Those of L13, L15 (in part),
+L18, L19, L22 to L24 (in part) and L28 are left to the reader.
+"""
 
 import ast
 import builtins
