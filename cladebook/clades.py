@@ -52,6 +52,11 @@ def depth_of(tree, node):
     return len([clade for clade in tree.clades if clade != node and lies_within(node, clade)])
 
 
+def is_split(tree):
+    """Whether each clade of a tree has just two parts."""
+    return all([len(parts_of(tree, clade)) == 2 for clade in tree.clades])
+
+
 def tree_under(tree, kinds):
     """The tree cut down to those of its kinds that are among these; there is at least one."""
     return tree_by_sets(tree.kinds & kinds, [clade & kinds for clade in tree.clades])

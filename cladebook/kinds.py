@@ -39,6 +39,11 @@ def kind_in(single):
     return single.bit_length() - 1
 
 
+def has_kind(kinds, number):
+    """Whether the kind of this number is in a set; numbers above all kinds are in none."""
+    return ((kinds >> number) & 1) == 1
+
+
 def first_crossing(sets):
     """Which two of the sets are the first that cross, as [i, j]; [] if no two do."""
     for i in range(len(sets)):

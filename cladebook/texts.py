@@ -1,7 +1,7 @@
 """The text of a tree, and the reading of bytes that may be one."""
 
 from cladebook.clades import parts_of, tree_by_sets
-from cladebook.kinds import KIND_COUNT, kind_in, singles_of
+from cladebook.kinds import KIND_COUNT, has_kind, kind_in, singles_of
 
 # The bytes that a tree's text is made of, beside the digits between these two.
 OPENING = 40
@@ -162,7 +162,7 @@ def add_part(reading, kinds):
 
 def is_free_kind(reading, number):
     """Whether this is the number of a kind that has not stood in the text yet."""
-    return number < KIND_COUNT and ((reading.taken >> number) & 1) == 0
+    return number < KIND_COUNT and not has_kind(reading.taken, number)
 
 
 def begins_free_kind(reading, digit):

@@ -42,6 +42,47 @@ def shows(p, q):
     return [9, p, q]
 
 
+def common(a, b, q, places):
+    return [10, a, b, q, len(places)] + list(places)
+
+
+def joint(q, places):
+    return [11, q, len(places)] + list(places)
+
+
+def changes(p, states, costs):
+    return [12, p, len(states)] + list(states) + [len(costs)] + list(costs)
+
+
+def clock(kinds, q, distances):
+    return [13, kinds, q, len(distances)] + list(distances)
+
+
+def links(kinds, distances):
+    return [14, kinds, len(distances)] + list(distances)
+
+
+def count(p):
+    return [15, p]
+
+
+def nth(p, k, q):
+    return [16, p, k, q]
+
+
+def rank(p, q):
+    return [17, p, q]
+
+
+def settle(p, q, homes):
+    return [18, p, q, len(homes)] + list(homes)
+
+
+def chain_sets(kinds):
+    """The clades of a tree in which each of these kinds is put to all before it."""
+    return [kinds_of(*kinds[:length]) for length in range(2, len(kinds) + 1)]
+
+
 def kinds_of(*kinds):
     """The set of these kinds."""
     return sum(2 ** kind for kind in set(kinds))

@@ -139,18 +139,23 @@ def crossing(one, other):
 
 
 class Model:
+    names = ["read", "sets", "drop", "text", "clades", "node", "under", "differ", "shows"]
+
     def __init__(self):
         self.book = {}
 
     def answer(self, call):
-        places = {1: [1], 2: [1], 7: [1, 3], 8: [1, 2], 9: [1, 2]}.get(call[0], [1])
-        if any(call[at] > 15 for at in places):
+        if any(place > 15 for place in self.places(call)):
             return [-1]
-        if any(call[at] not in self.book for at in {1: [], 2: [], 7: [1]}.get(call[0], places)):
+        if any(place not in self.book for place in self.asked(call)):
             return [-2]
-        ways = {1: self.read, 2: self.sets, 3: self.drop, 4: self.text, 5: self.clades, 6: self.node,
-                7: self.under, 8: self.differ, 9: self.shows}
-        return ways[call[0]](*call[1:])
+        return getattr(self, self.names[call[0] - 1])(*call[1:])
+
+    def places(self, call):
+        return [call[at] for at in {7: [1, 3], 8: [1, 2], 9: [1, 2]}.get(call[0], [1])]
+
+    def asked(self, call):
+        return [] if call[0] in (1, 2) else [call[1]] if call[0] == 7 else self.places(call)
 
     def read(self, p, length, *signs):
         words = "".join(chr(sign) for sign in signs)
